@@ -1,0 +1,1 @@
+"""Addedink: amounts altered by added strokes."""

@@ -1,0 +1,78 @@
+"""That names stand where the interface lists them, and that the package is laid out as it must be."""
+
+import inspect
+import os
+import unittest
+
+from addedink import desks, errors, styles
+
+PACKAGE = os.path.dirname(os.path.abspath(errors.__file__))
+
+CLASSES = [
+    (errors, [
+        "InkError", "InvalidStroke", "EmptyShape", "DoubleShape", "InvalidFigure", "InvalidCheck", "InvalidLimit",
+        "InvalidAmount", "NotGood", "Unbounded", "InvalidCell", "StrokeStands", "NothingToUndo", "Unreadable",
+    ]),
+    (styles, ["Style"]),
+    (desks, ["Desk"]),
+]
+
+
+class InterfaceTest(unittest.TestCase):
+    def test_each_class_is_defined_in_its_file(self):
+        for module, names in CLASSES:
+            for name in names:
+                with self.subTest(name=name):
+                    self.assertTrue(inspect.isclass(getattr(module, name)))
+                    self.assertEqual(getattr(module, name).__module__, module.__name__)
+
+    def test_methods_stand_in_the_class_itself(self):
+        own = vars(styles.Style)
+        for name in ["becomes", "cost", "within", "redrawn", "__getitem__", "__eq__"]:
+            self.assertTrue(inspect.isfunction(own[name]), name)
+        own = vars(desks.Desk)
+        for name in ["with_checks", "with_style", "with_limits", "__eq__"]:
+            self.assertTrue(inspect.isfunction(own[name]), name)
+
+    def test_properties_stand_in_the_class_itself_and_are_only_read(self):
+        style = styles.Style([[stroke] for stroke in range(1, 11)])
+        desk = desks.Desk(style, [])
+        listed = [(style, ["shapes"]), (desk, ["style", "checks", "free", "most", "raised", "period"])]
+        for thing, names in listed:
+            for name in names:
+                with self.subTest(name=name):
+                    self.assertIsInstance(vars(type(thing))[name], property)
+                    with self.assertRaises(AttributeError):
+                        setattr(thing, name, getattr(thing, name))
+
+    def test_parameters(self):
+        listed = [
+            (styles.Style, "(shapes)"),
+            (styles.Style.becomes, "(self, figure)"),
+            (styles.Style.cost, "(self, figure, other)"),
+            (styles.Style.within, "(self, other)"),
+            (styles.Style.redrawn, "(self, figure, strokes)"),
+            (desks.Desk, "(style, checks, *, free=0, most=None, raised=False)"),
+            (desks.Desk.with_checks, "(self, checks)"),
+            (desks.Desk.with_style, "(self, style)"),
+            (desks.Desk.with_limits, "(self, *, free, most, raised)"),
+        ]
+        for thing, parameters in listed:
+            with self.subTest(thing=thing):
+                self.assertEqual(str(inspect.signature(thing)), parameters)
+
+    def test_the_package_holds_plain_sources_only(self):
+        for name in os.listdir(PACKAGE):
+            if name == "__pycache__":
+                continue
+            self.assertTrue(name.endswith(".py"), name)
+            with open(os.path.join(PACKAGE, name), "rb") as source:
+                data = source.read()
+            self.assertTrue(all(sign == 10 or 32 <= sign <= 126 for sign in data), name)
+            lines = data.split(b"\n")
+            self.assertLessEqual(len(lines), 400, name)
+            self.assertLessEqual(max(len(line) for line in lines), 120, name)
+
+
+if __name__ == "__main__":
+    unittest.main()
