@@ -38,6 +38,16 @@ def require_limit(limit, least):
         raise InvalidLimit(limit)
 
 
+def checks_of(desk, kind):
+    """Return the checks of a desk that are of one kind, in order."""
+    return [check for check in desk.checks if check[0] == kind]
+
+
+def styles_of(desk):
+    """Return the style of a desk and, behind it, those of its copies."""
+    return [desk.style] + [check[1] for check in checks_of(desk, "copy")]
+
+
 class Desk:
     """A style, checks and limits. It never changes."""
 

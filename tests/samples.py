@@ -45,3 +45,9 @@ class Strange:
         return NotImplemented
 
     __hash__ = None
+
+
+# Lists that are no amounts.
+NO_AMOUNTS = [[], [0], [0, 1], [0, 0, 0]] + [[figure] for figure in NO_FIGURES] + [
+    [1, figure] for figure in NO_FIGURES
+] + [[9, 0, 10, 0], [1] * 29 + [-1], [-1, 0], [10, 0]]

@@ -4,7 +4,7 @@ import inspect
 import os
 import unittest
 
-from addedink import desks, errors, styles
+from addedink import amounts, desks, errors, lots, styles, unseen
 
 PACKAGE = os.path.dirname(os.path.abspath(errors.__file__))
 
@@ -17,6 +17,26 @@ CLASSES = [
     (desks, ["Desk"]),
 ]
 
+FUNCTIONS = [
+    (amounts.is_good, "addedink.amounts", "(desk, amount)"),
+    (amounts.is_possible, "addedink.amounts", "(desk, amount, altered)"),
+    (amounts.is_unseen, "addedink.amounts", "(desk, amount, altered)"),
+    (amounts.altered_cells, "addedink.amounts", "(amount, altered)"),
+    (amounts.price, "addedink.amounts", "(desk, amount, altered)"),
+    (amounts.check_figures, "addedink.amounts", "(desk, amount)"),
+    (unseen.first_unseen, "addedink.unseen", "(desk)"),
+    (unseen.least_price, "addedink.unseen", "(desk)"),
+    (unseen.cheapest, "addedink.unseen", "(desk)"),
+    (unseen.closed, "addedink.unseen", "(desk)"),
+    (unseen.judge_closed, "addedink.unseen", "(desk, told)"),
+    (unseen.unseen_alterations, "addedink.unseen", "(desk, amount)"),
+    (unseen.sources, "addedink.unseen", "(desk, seen)"),
+    (unseen.likeliest, "addedink.unseen", "(desk, seen)"),
+    (lots.is_sure, "addedink.lots", "(desk)"),
+    (lots.least_checks, "addedink.lots", "(desk, offered)"),
+    (lots.least_redraws, "addedink.lots", "(desk, offered)"),
+]
+
 
 class InterfaceTest(unittest.TestCase):
     def test_each_class_is_defined_in_its_file(self):
@@ -25,6 +45,13 @@ class InterfaceTest(unittest.TestCase):
                 with self.subTest(name=name):
                     self.assertTrue(inspect.isclass(getattr(module, name)))
                     self.assertEqual(getattr(module, name).__module__, module.__name__)
+
+    def test_each_function_is_defined_in_its_file(self):
+        for function, module, parameters in FUNCTIONS:
+            with self.subTest(function=function):
+                self.assertTrue(inspect.isfunction(function))
+                self.assertEqual(function.__module__, module)
+                self.assertEqual(str(inspect.signature(function)), parameters)
 
     def test_methods_stand_in_the_class_itself(self):
         own = vars(styles.Style)
