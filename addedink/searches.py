@@ -27,7 +27,7 @@ def cheapest_way(walk):
     """Return a tuple (price, amount, altered) of an unseen alteration of the least price, None if there is none."""
     # A cost is a price and a number of cells: without the cells the amount might grow needlessly.
     best = {walk.start: (0, 0)}
-    last_steps = {}
+    last_steps = {walk.start: None}
     queue = [((0, 0), walk.start)]
     while queue:
         cost, trace = heappop(queue)
@@ -45,15 +45,43 @@ def cheapest_way(walk):
     return None
 
 
+def ways_by_order(walk):
+    """Return a dict from each order of unseen alterations, 1 or -1, to a tuple (amount, altered) of the fewest cells.
+
+    An order of which no alteration is unseen is left out.
+    """
+    last_steps = {walk.start: None}
+    found = {}
+    layer = [walk.start]
+    while layer and len(found) < 2:
+        reached = []
+        for trace in layer:
+            for figure in CONTENTS:
+                for other, new in walk.steps(trace, figure):
+                    if new not in last_steps:
+                        last_steps[new] = (trace, figure, other)
+                        reached.append(new)
+        for trace in reached:
+            if walk.is_unseen_trace(trace) and trace[4] not in found:
+                found[trace[4]] = written(last_steps, trace)
+        layer = reached
+    return found
+
+
 def written(last_steps, trace):
-    """Return the amount and the altered amount of which a trace tells, by the last step to each trace."""
+    """Return the amount and the altered amount of which a trace tells, by the last step to each trace.
+
+    The start trace has None as its last step.
+    """
     amount = []
     altered = []
-    while trace in last_steps:
-        trace, figure, other = last_steps[trace]
+    step = last_steps[trace]
+    while step is not None:
+        before, figure, other = step
         altered.append(other)
         if figure is not None:
             amount.append(figure)
+        step = last_steps[before]
     return (amount, altered)
 
 

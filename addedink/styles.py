@@ -13,11 +13,16 @@ def require_figure(figure):
         raise InvalidFigure(figure)
 
 
+def require_stroke(stroke):
+    """Raise InvalidStroke if an integer is no stroke."""
+    if not LOWEST_STROKE <= stroke <= HIGHEST_STROKE:
+        raise InvalidStroke(stroke)
+
+
 def read_shape(figure, strokes):
     """Return the ascending strokes of a figure, each once, or raise the error of the first fault."""
     for stroke in strokes:
-        if not LOWEST_STROKE <= stroke <= HIGHEST_STROKE:
-            raise InvalidStroke(stroke)
+        require_stroke(stroke)
     if not strokes:
         raise EmptyShape(figure)
     return sorted(set(strokes))

@@ -4,7 +4,7 @@ import inspect
 import os
 import unittest
 
-from addedink import amounts, desks, errors, lots, styles, unseen
+from addedink import amounts, desks, errors, fields, lots, pages, readings, styles, texts, unseen
 
 PACKAGE = os.path.dirname(os.path.abspath(errors.__file__))
 
@@ -15,6 +15,7 @@ CLASSES = [
     ]),
     (styles, ["Style"]),
     (desks, ["Desk"]),
+    (fields, ["Field"]),
 ]
 
 FUNCTIONS = [
@@ -35,6 +36,13 @@ FUNCTIONS = [
     (lots.is_sure, "addedink.lots", "(desk)"),
     (lots.least_checks, "addedink.lots", "(desk, offered)"),
     (lots.least_redraws, "addedink.lots", "(desk, offered)"),
+    (pages.is_page_sure, "addedink.pages", "(desk)"),
+    (pages.altered_page, "addedink.pages", "(desk)"),
+    (pages.judge_page, "addedink.pages", "(desk, told)"),
+    (texts.show_style, "addedink.texts", "(style)"),
+    (texts.show_desk, "addedink.texts", "(desk)"),
+    (readings.read_style, "addedink.readings", "(text)"),
+    (readings.read_desk, "addedink.readings", "(text)"),
 ]
 
 
@@ -60,11 +68,18 @@ class InterfaceTest(unittest.TestCase):
         own = vars(desks.Desk)
         for name in ["with_checks", "with_style", "with_limits", "__eq__"]:
             self.assertTrue(inspect.isfunction(own[name]), name)
+        own = vars(fields.Field)
+        for name in ["__call__", "strokes", "left", "write", "undo", "__len__", "__eq__"]:
+            self.assertTrue(inspect.isfunction(own[name]), name)
 
     def test_properties_stand_in_the_class_itself_and_are_only_read(self):
         style = styles.Style([[stroke] for stroke in range(1, 11)])
         desk = desks.Desk(style, [])
-        listed = [(style, ["shapes"]), (desk, ["style", "checks", "free", "most", "raised", "period"])]
+        field = fields.Field(desk, [1])
+        listed = [
+            (style, ["shapes"]), (desk, ["style", "checks", "free", "most", "raised", "period"]),
+            (field, ["seen", "shows_unseen"]),
+        ]
         for thing, names in listed:
             for name in names:
                 with self.subTest(name=name):
@@ -83,6 +98,12 @@ class InterfaceTest(unittest.TestCase):
             (desks.Desk.with_checks, "(self, checks)"),
             (desks.Desk.with_style, "(self, style)"),
             (desks.Desk.with_limits, "(self, *, free, most, raised)"),
+            (fields.Field, "(desk, amount)"),
+            (fields.Field.__call__, "(self, cell, stroke)"),
+            (fields.Field.strokes, "(self, cell)"),
+            (fields.Field.left, "(self)"),
+            (fields.Field.write, "(self, rows)"),
+            (fields.Field.undo, "(self)"),
         ]
         for thing, parameters in listed:
             with self.subTest(thing=thing):

@@ -5,7 +5,9 @@ import unittest
 
 from addedink.amounts import check_figures, is_good, is_possible, is_unseen, price
 from addedink.desks import Desk
+from addedink.fields import Field
 from addedink.lots import is_sure, least_checks, least_redraws
+from addedink.pages import altered_page, is_page_sure, judge_page
 from addedink.styles import Style
 from addedink.unseen import (
     cheapest, closed, first_unseen, judge_closed, least_price, likeliest, sources, unseen_alterations,
@@ -57,6 +59,53 @@ class TimeTest(unittest.TestCase):
                 self.assertIs(self.timed(judge_closed, desk, traces * 2), True)
                 self.assertIs(self.timed(judge_closed, desk, traces[:-1]), False)
         self.assertGreater(sure, 10)
+
+    def test_pages(self):
+        pages = 0
+        for desk in desks_at_the_limits():
+            told = self.timed(altered_page, desk)
+            self.assertIs(self.timed(is_page_sure, desk), told is None)
+            if told is not None:
+                pages += 1
+                stays = [(seen, seen, 10 ** 59) for _, seen, _ in told]
+                self.assertIs(self.timed(judge_page, desk, told + stays * 49), True)
+                self.assertIs(self.timed(judge_page, desk, told[:1] + stays * 49), False)
+        self.assertGreater(pages, 5)
+
+    def test_pages_of_long_amounts(self):
+        slide = Style(reference.SLIDE)
+        desk = Desk(slide, [("rest", 9, [1, 2, 4]), ("copy", slide)], free=3)
+        long = [9] * 27 + [0] * 3
+        less = [9] * 9 + [0] * 21
+        stays = [(long, long, 10 ** 59), (less, less, 1)] * 49
+        page = [([9], [9, 0], 1), ([9, 9], [9, 0], 9)]
+        self.assertIs(self.timed(judge_page, desk, stays + page), True)
+        self.assertIs(self.timed(judge_page, desk, stays + page[:1]), False)
+        self.assertIs(self.timed(judge_page, desk, [(long, less, 10 ** 59)] * 100), False)
+
+    def test_fields(self):
+        worked = 0
+        for style in [Style(STAIRS), Style(reference.SLIDE), Style(LAMPS)]:
+            for sums in [[]] + SUMS:
+                for more in [[], [("copy", style)], [("count",)]]:
+                    for free, most in [(0, 4), (3, 4), (None, None), (1, None)]:
+                        desk = Desk(style, sums + more, free=free, most=most)
+                        good = [row for row in reference.amounts(4 if free == 0 else 1) if is_good(desk, row)]
+                        for amount in [good[0], good[-1]] if good else []:
+                            worked += 1
+                            self.work(self.timed(Field, desk, amount))
+        self.assertGreater(worked, 200)
+
+    def work(self, field):
+        """Ask a field of two cells or more, add many strokes, and take them back."""
+        self.timed(field.left)
+        rows = [(cell, stroke) for cell in range(2) for stroke in range(50, 100)]
+        self.timed(field.write, rows)
+        self.assertEqual(len(self.timed(field.strokes, 1)[-50:]), 50)
+        self.timed(field.left)
+        self.timed(lambda: (field.seen, field.shows_unseen, len(field), field == field))
+        for _ in rows:
+            self.timed(field.undo)
 
     def test_all_alterations_and_sources(self):
         stairs = Style(STAIRS)
