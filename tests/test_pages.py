@@ -1,6 +1,7 @@
 """Pages: rows of amounts with a fixed total."""
 
 import random
+import unittest
 
 from addedink.desks import Desk
 from addedink.errors import InvalidAmount
@@ -358,5 +359,4 @@ class ErrorTest(ErrorCase):
 
 
 if __name__ == "__main__":
-    import unittest
     unittest.main()

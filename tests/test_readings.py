@@ -116,8 +116,10 @@ class StyleTest(ReadingCase):
             self.assert_no_style(other)
 
     def test_integers(self):
-        for word in ["01", "001", "+1", "-1", "0", "-0", "100", "99999999", "10000001", "1.0", "1e1", "0x1", "1_0", "--1",
-                     "a", "-", "", " ", "9" * 60, "-" + "9" * 60, "9" * 5000]:
+        for word in [
+            "01", "001", "+1", "-1", "0", "-0", "100", "99999999", "10000001", "1.0", "1e1", "0x1", "1_0", "--1", "a",
+            "-", "", " ", "9" * 60, "-" + "9" * 60, "9" * 5000,
+        ]:
             for place in ["12", "11", "18"]:
                 self.assert_no_style(FEW_TEXT.replace(place, word))
             self.assert_no_style(FEW_TEXT.replace("1 2", f"1 {word}"))
@@ -208,11 +210,12 @@ class DeskTest(ReadingCase):
     def test_rest_checks(self):
         self.assertEqual(read_desk(self.with_rest("2: 0;")).checks, [("rest", 2, [0])])
         for words in [
-            "1: 1;", "0: 1;", "-2: 1;", "-9999999: 1;", "02: 1;", "+2: 1;", "2: -0;", "2: 01;", "2: +1;", "2: 00;", "2: -01;",
-            "2:;", "2: ;", "2:", "2", "", ";", "2: 1", "2 1;", "2 : 1;", "2:1;", "2:  1;", "2: 1 ;", "2: 1; ", "2: 1  2;",
-            "2:: 1;", "2: 1:;", "2: 1;;", "2: 1, 2;", " 2: 1;", "any: 1;", "2: any;", "2: 1.5;", "2; 1:", "(2: 1;)", "2: --1;",
-            "12345678: 1;", "2: 12345678;", "2: -12345678;", "2: 10000000;", "2: 1; rest 1: 1;", "2: 1;rest 2: 1;",
-            "2: " + "9" * 60 + ";", "9" * 5000 + ": 1;", "2: -" + "9" * 5000 + ";", "2: 1 -;", "2: 1- 1;", "-: 1;",
+            "1: 1;", "0: 1;", "-2: 1;", "-9999999: 1;", "02: 1;", "+2: 1;", "2: -0;", "2: 01;", "2: +1;", "2: 00;",
+            "2: -01;", "2:;", "2: ;", "2:", "2", "", ";", "2: 1", "2 1;", "2 : 1;", "2:1;", "2:  1;", "2: 1 ;",
+            "2: 1; ", "2: 1  2;", "2:: 1;", "2: 1:;", "2: 1;;", "2: 1, 2;", " 2: 1;", "any: 1;", "2: any;", "2: 1.5;",
+            "2; 1:", "(2: 1;)", "2: --1;", "12345678: 1;", "2: 12345678;", "2: -12345678;", "2: 10000000;",
+            "2: 1; rest 1: 1;", "2: 1;rest 2: 1;", "2: " + "9" * 60 + ";", "9" * 5000 + ": 1;",
+            "2: -" + "9" * 5000 + ";", "2: 1 -;", "2: 1- 1;", "-: 1;",
         ]:
             self.assert_no_desk(self.with_rest(words))
         for words in ["9999999: 9999999 -9999999;", "2: -1;", "1000000: 0 0 0;"]:
@@ -220,10 +223,11 @@ class DeskTest(ReadingCase):
 
     def test_no_checks(self):
         for word in [
-            "none", "counts", "Count", "coun", "COUNT", "count;", "count:", "count()", "rest", "copy", "copy()", "copy ()",
-            "copies", f"copy {BAR_TEXT}", f"copy ({BAR_TEXT}", f"copy {BAR_TEXT})", f"copy({BAR_TEXT})", f"({BAR_TEXT})",
-            f"copy  ({BAR_TEXT})", f"copy (({BAR_TEXT}))", f"copy ({BAR_TEXT});", f"copy [{BAR_TEXT}]", "raised", "free 0",
-            "most 1", "1", ";", "", "countcount", "count  count", "count count ", "free", "most", "any", "rest count",
+            "none", "counts", "Count", "coun", "COUNT", "count;", "count:", "count()", "rest", "copy", "copy()",
+            "copy ()", "copies", f"copy {BAR_TEXT}", f"copy ({BAR_TEXT}", f"copy {BAR_TEXT})", f"copy({BAR_TEXT})",
+            f"({BAR_TEXT})", f"copy  ({BAR_TEXT})", f"copy (({BAR_TEXT}))", f"copy ({BAR_TEXT});",
+            f"copy [{BAR_TEXT}]", "raised", "free 0", "most 1", "1", ";", "", "countcount", "count  count",
+            "count count ", "free", "most", "any", "rest count",
         ]:
             self.assert_no_desk(f"({FEW_TEXT}) {word} free 0 most any")
         text = f"({FEW_TEXT}) count count copy ({FEW_TEXT}) free 0 most any"
@@ -231,15 +235,17 @@ class DeskTest(ReadingCase):
 
     def test_limits(self):
         for limits in [
-            "free -1 most any", "free 0 most 0", "free 0 most -1", "free 00 most 1", "free 0 most 01", "free -0 most 1",
-            "free +1 most 1", "free 0 most +1", "free 12345678 most 1", "free 0 most 12345678", "free most 1", "free 0 most",
-            "free 0", "most 1", "", "free 0 most ", "free  most 1", "free 0 most 1 ", "free 0 most any most any",
-            "most 1 free 0", "free 0 free 0", "free None most 1", "free any most None", "free Any most any", "free 0, most 1",
-            "free 0 most 1 2", "free any most any any", "free 0 most 1; raised", "free 0 1 most 1", "free 0  most 1",
-            "free 0 most 1  raised", "free 0 most 1raised", "free 0 most 1 raised ", "free 0 most 1 raised raised",
-            "free 0 most 1 Raised", "free 0 most 1 raise", "free 0 most 1 True", "free 0 raised most 1", "raised free 0 most 1",
-            "free 0 most 1 count", "free 0 most 1 not", "free 0 most 1 raised count", "free 0 last 1", "limit 0 most 1",
-            "free " + "9" * 60 + " most 1", "free 0 most " + "9" * 5000, "free 0 most 1)", "free 0 most -",
+            "free -1 most any", "free 0 most 0", "free 0 most -1", "free 00 most 1", "free 0 most 01",
+            "free -0 most 1", "free +1 most 1", "free 0 most +1", "free 12345678 most 1", "free 0 most 12345678",
+            "free most 1", "free 0 most", "free 0", "most 1", "", "free 0 most ", "free  most 1", "free 0 most 1 ",
+            "free 0 most any most any", "most 1 free 0", "free 0 free 0", "free None most 1", "free any most None",
+            "free Any most any", "free 0, most 1", "free 0 most 1 2", "free any most any any",
+            "free 0 most 1; raised", "free 0 1 most 1", "free 0  most 1", "free 0 most 1  raised",
+            "free 0 most 1raised", "free 0 most 1 raised ", "free 0 most 1 raised raised", "free 0 most 1 Raised",
+            "free 0 most 1 raise", "free 0 most 1 True", "free 0 raised most 1", "raised free 0 most 1",
+            "free 0 most 1 count", "free 0 most 1 not", "free 0 most 1 raised count", "free 0 last 1",
+            "limit 0 most 1", "free " + "9" * 60 + " most 1", "free 0 most " + "9" * 5000, "free 0 most 1)",
+            "free 0 most -",
         ]:
             self.assert_no_desk(f"({FEW_TEXT}) {limits}")
             self.assert_no_desk(f"({FEW_TEXT}) count {limits}")
@@ -252,7 +258,8 @@ class DeskTest(ReadingCase):
             f"[{FEW_TEXT}) free 0 most any", f"({FEW_TEXT}] free 0 most any", f"(({FEW_TEXT})) free 0 most any",
             f" ({FEW_TEXT}) free 0 most any", f"({FEW_TEXT})  free 0 most any", f"({FEW_TEXT})free 0 most any",
             f"( {FEW_TEXT}) free 0 most any", f"({FEW_TEXT} ) free 0 most any", f"({FEW_TEXT})", f"({FEW_TEXT}) ",
-            f"({FEW_TEXT}) free", f"({FEW_TEXT}) free ", "", " ", "(", ")", "()", "() free 0 most any", "free 0 most any",
+            f"({FEW_TEXT}) free", f"({FEW_TEXT}) free ", "", " ", "(", ")", "()", "() free 0 most any",
+            "free 0 most any",
             " free 0 most any", f"({FEW_TEXT})({FEW_TEXT}) free 0 most any", f"x({FEW_TEXT}) free 0 most any",
         ]:
             self.assert_no_desk(text)
@@ -265,7 +272,7 @@ class DeskTest(ReadingCase):
 
 class LargeTest(ReadingCase):
     def test_desks_with_many_checks(self):
-        weights = [[(-1) ** at * 10 ** (at // 3) for at in range(1, many + 1)] for many in [20, 19, 18, 17, 16, 15, 14, 13]]
+        weights = [[(-1) ** at * (10 ** (at // 3) + row) for at in range(20)] for row in range(8)]
         checks = "".join([f" rest {modulus}:{''.join(f' {weight}' for weight in row)};"
                           for modulus, row in zip(range(9999992, 10000000), weights)])
         text = f"({FEW_TEXT}){checks} free any most any raised"
@@ -276,6 +283,7 @@ class LargeTest(ReadingCase):
         self.assertEqual([check[2] for check in desk.checks], weights)
         self.assertEqual([check[1] for check in desk.checks], list(range(9999992, 10000000)))
         self.assertEqual((desk.style, desk.free, desk.most, desk.raised), (Style(FEW), None, None, True))
+        self.assertEqual(desk.period, 20)
         longer = desk.with_checks(desk.checks)
         self.assertEqual(len(longer.checks), 16)
         self.assertEqual(read_desk(show_desk(longer)), longer)
@@ -321,7 +329,9 @@ class LargeTest(ReadingCase):
         text = f"({style}){f' copy ({style})' * 6} free 0 most any"
         self.assertGreater(len(text), 15000)
         self.assertEqual(show_desk(read_desk(text)), text)
-        for part in ["(", ")", " ", ";", "1", "1 ", "1; ", " count", " rest 2: 1;", " copy (", "~", "-", "-1 ", " free 0 most "]:
+        for part in [
+            "(", ")", " ", ";", "1", "1 ", "1; ", " count", " rest 2: 1;", " copy (", "~", "-", "-1 ", " free 0 most ",
+        ]:
             for text in [part * (20000 // len(part)), f"({FEW_TEXT})" + part * (19900 // len(part))]:
                 self.assert_unreadable(read_style, text)
                 self.assert_unreadable(read_desk, text)
